@@ -15,6 +15,10 @@ INTERFACE = {
     "matrices": ("operate",),
     "programs": ("shapes",),
     "programtexts": ("write_program", "read_program"),
+    "lines": ("needed", "run_lines"),
+    "back": ("forward", "plan", "gradients", "rates"),
+    "orders": ("rank", "order", "shares"),
+    "settings": ("sum_tree", "advance", "send"),
 }
 ALLOWED_BUILTINS = set(
     "len range enumerate zip min max sum abs sorted reversed int str bool list tuple dict set "
