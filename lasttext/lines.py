@@ -18,18 +18,34 @@ def needed(leaves, lines, outputs):
 
 def run_lines(matrices, lines, outputs):
     """The outputs' values, or None if a line faulted, and the operations that were asked."""
-    leaves = len(matrices)
-    known = dict(enumerate(matrices))
-    asked = []
-    for index in needed(leaves, lines, outputs):
-        kind, numbers, values = lines[index]
-        operation = (kind, numbers, tuple([known[value] for value in values]))
-        asked.append(operation)
-        result = operate(kind, numbers, operation[2])
-        if result is None:
-            return (None, tuple(asked))
-        known[leaves + index] = result
-    return (tuple([known[value] for value in outputs]), tuple(asked))
+    runner = LineRunner()
+    found = runner.execute(matrices, lines, outputs)
+    return (found, tuple(runner.operations))
+
+
+class LineRunner:
+    """Executes line programs, and keeps the list of all operations that they ask."""
+
+    def __init__(self):
+        self.operations = []
+
+    def execute(self, matrices, lines, outputs):
+        """The outputs' values, or None if a needed line faults."""
+        leaves = len(matrices)
+        known = dict(enumerate(matrices))
+        for index in needed(leaves, lines, outputs):
+            kind, numbers, values = lines[index]
+            operation = (kind, numbers, tuple([known[value] for value in values]))
+            self.operations.append(operation)
+            result = self.result_of(operation)
+            if result is None:
+                return None
+            known[leaves + index] = result
+        return tuple([known[value] for value in outputs])
+
+    def result_of(self, operation):
+        kind, numbers, matrices = operation
+        return operate(kind, numbers, matrices)
 
 
 class LineWriter:

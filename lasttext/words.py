@@ -1,9 +1,10 @@
-"""The words of written texts: names and numbers (sections 6 and 8 of the document)."""
+"""The words of written texts: names and numbers (sections 6, 8 and 39 of the document)."""
 
 LETTERS = "abcdefghijklmnopqrstuvwxyz"
 DIGITS = "0123456789"
 MOST_CHARACTERS = 12
-MOST_DIGITS = 4
+# No number that the document allows in a text has more, and Python reads no number of thousands of digits.
+MOST_DIGITS = 7
 
 
 def is_name(word):

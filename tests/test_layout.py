@@ -19,7 +19,19 @@ INTERFACE = {
     "back": ("forward", "plan", "gradients", "rates"),
     "orders": ("rank", "order", "shares"),
     "settings": ("sum_tree", "advance", "send"),
+    "runs": ("documents_of", "run", "asked"),
+    "edits": (
+        "new_text", "put_source", "drop_source", "set_seed", "put_document", "drop_document", "put_segment",
+        "set_segment", "drop_segment", "set_start", "set_program", "put_test", "drop_test", "first_changed",
+    ),
+    "studio": ("Studio",),
+    "journals": ("restart",),
 }
+METHODS = (
+    "text", "branches", "edit", "fork", "undo", "redo", "take_over", "parted", "table", "fresh", "wanted", "ask",
+    "keep_newest", "keep_needed", "open_question", "give", "done", "lost", "finish", "stop", "test", "best", "bills",
+    "uses", "hangs", "transcript", "dispute", "journal",
+)
 ALLOWED_BUILTINS = set(
     "len range enumerate zip min max sum abs sorted reversed int str bool list tuple dict set "
     "isinstance ord repr any all divmod super Exception ValueError TypeError KeyError "
@@ -52,6 +64,52 @@ class Layout(unittest.TestCase):
             found = [node.name for node in tree.body if isinstance(node, (ast.FunctionDef, ast.ClassDef))]
             for name in names:
                 self.assertIn(name, found)
+
+    def test_the_methods_stand_in_the_class_itself(self):
+        tree = ast.parse((PACKAGE / "studio.py").read_text("ascii"))
+        studio = next(node for node in tree.body if isinstance(node, ast.ClassDef) and node.name == "Studio")
+        found = [node.name for node in studio.body if isinstance(node, ast.FunctionDef)]
+        self.assertEqual(len(found), len(set(found)))
+        for name in METHODS:
+            self.assertIn(name, found)
+
+    def test_no_imports_go_around(self):
+        imports = {}
+        for path, tree in trees():
+            own = [node.module.split(".")[1] for node in tree.body if isinstance(node, ast.ImportFrom)]
+            imports[path.stem] = own
+        while imports:
+            free = [name for name, own in imports.items() if not any(other in imports for other in own)]
+            self.assertNotEqual(free, [], imports)
+            for name in free:
+                del imports[name]
+
+    def test_every_import_is_used(self):
+        for path, tree in trees():
+            names = [node.id for node in ast.walk(tree) if isinstance(node, ast.Name)]
+            for node in tree.body:
+                for alias in getattr(node, "names", []):
+                    self.assertIn(alias.name, names, path)
+
+    def test_no_name_is_a_method_and_an_attribute(self):
+        methods, attributes = {}, {}
+        for path, node in nodes():
+            if isinstance(node, ast.ClassDef):
+                for part in node.body:
+                    methods[getattr(part, "name", None)] = path
+            if isinstance(node, ast.Attribute) and isinstance(node.ctx, ast.Store):
+                attributes[node.attr] = path
+        self.assertEqual(set(methods) & set(attributes), set())
+
+    def test_no_variable_has_the_name_of_an_import_or_a_class_of_its_file(self):
+        for path, tree in trees():
+            names = [alias.name for node in tree.body for alias in getattr(node, "names", [])]
+            names += [node.name for node in tree.body if isinstance(node, ast.ClassDef)]
+            for node in ast.walk(tree):
+                if isinstance(node, ast.Name) and isinstance(node.ctx, ast.Store):
+                    self.assertNotIn(node.id, names, path)
+                if isinstance(node, ast.arg):
+                    self.assertNotIn(node.arg, names, path)
 
     def test_characters_and_sizes(self):
         for path in FILES:
