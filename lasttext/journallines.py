@@ -5,7 +5,6 @@ that reads it from a list of words and returns None if nothing is written so.
 """
 
 from lasttext.errors import BadProgram
-from lasttext.matrices import LIMIT
 from lasttext.programtexts import read_program, write_program
 from lasttext.words import is_name, read_numbers
 
@@ -13,7 +12,7 @@ BEGINNING = "studio"
 BRANCH_BOUNDS = (0, 5)
 PLACE_BOUNDS = (0, 8)
 SEED_BOUNDS = (0, 1000000)
-ENTRY_BOUNDS = (1 - LIMIT, LIMIT - 1)
+ENTRY_BOUNDS = (-9999999, 9999999)
 WEIGHT_BOUNDS = (0, 100)
 STEPS_AND_BATCH_BOUNDS = ((1, 48), (1, 8))
 SETTINGS_BOUNDS = ((0, 1000), (1, 20), (0, 1000), (0, 1000), (0, 9))
