@@ -16,7 +16,11 @@ MOST_ENTRIES = 20000
 
 
 class Studio:
-    """Branches of texts, and what has been computed for questions about their runs."""
+    """Branches of texts, and what has been computed for questions about their runs.
+
+    The methods stand in the order of the document's sections; what they share
+    stands behind them, from `branch_of` on.
+    """
 
     def __init__(self, program, start):
         self.branch_list = [Branch(new_text(program, start))]
@@ -25,8 +29,6 @@ class Studio:
         self.question = None
         self.bill_list = []
         self.journal_lines = [written_beginning(program, start)]
-
-    # Branches
 
     def text(self, branch):
         return self.branch_of(branch).now
@@ -66,8 +68,6 @@ class Studio:
 
     def parted(self, branch, other):
         return first_changed(self.text(branch), self.text(other))
-
-    # The table and the questions
 
     def table(self):
         return tuple(self.results.items())
@@ -109,8 +109,6 @@ class Studio:
             for operation in runner.operations:
                 needed[operation] = True
         return self.keep([operation for operation in self.results if operation in needed])
-
-    # The open question
 
     def open_question(self, branch, step):
         self.check_closed()
@@ -160,8 +158,6 @@ class Studio:
         self.bill_list.append((question.branch, question.step, question.count))
         self.question = None
 
-    # Tests and bills
-
     def test(self, branch, step):
         """The step of the fault or None, the loss of the tests or None, and the number of new entries."""
         text = self.text_for_tests(branch, step)
@@ -187,8 +183,6 @@ class Studio:
     def bills(self):
         return tuple(self.bill_list)
 
-    # Documents, transcripts and disputes
-
     def uses(self, branch, source, name):
         """The tuple of the numbers of the steps whose documents include the document."""
         text = self.text(branch)
@@ -207,8 +201,6 @@ class Studio:
         """Which claim is right, the index at which they differ, and the number of comparisons."""
         return judged(self.text_with_executed_step(branch, step), step, first, second)
 
-    # Journals
-
     def journal(self):
         return "".join([f"{line}\n" for line in self.journal_lines])
 
@@ -223,8 +215,6 @@ class Studio:
         if name == "take_over":
             return self.take_over(branch, arguments[0])
         return self.edit(branch, name, arguments)
-
-    # What the methods above share
 
     def branch_of(self, branch):
         if branch < 0 or branch >= len(self.branch_list):
